@@ -1,0 +1,1 @@
+"""Networks of neurons in single precision."""
