@@ -1,4 +1,4 @@
-"""The rules of LANGUAGE.md that a look at the written program can tell, by their numbers."""
+"""Some of the rules of LANGUAGE.md, by their numbers: not L9, L11, L13, L22 to L24, L28, and others only in part."""
 
 import ast
 import builtins
