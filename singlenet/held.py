@@ -1,16 +1,21 @@
 """The calls on one object, and what each answers."""
 
 from singlenet.layout import NotANet, read_net
-from singlenet.single import is_finite
+from singlenet.single import NotFinite, is_finite
+from singlenet.training import Lesson, ease_step, train_step
 
 BEGIN = 0
 SIZES = 1
 SET = 2
 GET = 3
+RUN = 4
+TRAIN = 5
+EASE = 6
 
 DONE = 0
 WRONG_COUNT = -2
 WRONG_VALUE = -3
+FAILED = -4
 NO_NET = -9
 
 MOST_BYTES = 4096
@@ -43,6 +48,17 @@ def answer_call(held, reader):
     if call == GET:
         layer = reader.take_number()
         return held.get_own(layer, reader.take_number())
+    if call == RUN:
+        out_count = reader.take_number()
+        return held.run(out_count, reader.take_row())
+    if call == TRAIN:
+        rates = reader.take_numbers(2)
+        numbers = reader.take_row()
+        return held.train(rates, numbers, reader.take_row())
+    if call == EASE:
+        rates = reader.take_numbers(4)
+        numbers = reader.take_row()
+        return held.ease(rates, numbers, reader.take_row())
     raise UnknownCall(f"no call has the number {call}")
 
 
@@ -61,11 +77,13 @@ class Reader:
         return number
 
     # A slice is a copy, so what is kept of a row is never the caller's own list.
-    def take_row(self):
-        count = self.take_number()
+    def take_numbers(self, count):
         start = self.place
         self.place += count
         return self.calls[start:self.place]
+
+    def take_row(self):
+        return self.take_numbers(self.take_number())
 
 
 class Held:
@@ -94,9 +112,9 @@ class Held:
             return [NO_NET]
         if not self.net.has_own(layer, len(numbers)):
             return [WRONG_COUNT]
-        if not all([is_finite(number) for number in numbers]):
+        if not are_finite(numbers):
             return [WRONG_VALUE]
-        self.net.own[layer] = numbers
+        self.net.set_own(layer, numbers)
         return [DONE]
 
     def get_own(self, layer, count):
@@ -105,3 +123,42 @@ class Held:
         if not self.net.has_own(layer, count):
             return [WRONG_COUNT]
         return [DONE] + self.net.own[layer]
+
+    def run(self, out_count, numbers):
+        refusal = self.refusal(len(numbers), out_count, numbers)
+        if refusal != DONE:
+            return [refusal]
+        try:
+            return [DONE] + self.net.stages(numbers)[-1]
+        except NotFinite:
+            return [FAILED]
+
+    def train(self, rates, numbers, wanted):
+        return self.learn(train_step, rates, numbers, wanted)
+
+    def ease(self, rates, numbers, wanted):
+        return self.learn(ease_step, rates, numbers, wanted)
+
+    def learn(self, step, rates, numbers, wanted):
+        refusal = self.refusal(len(numbers), len(wanted), rates + numbers + wanted)
+        if refusal != DONE:
+            return [refusal]
+        try:
+            lesson = Lesson(self.net, numbers, wanted)
+            step(self.net, lesson, rates)
+        except NotFinite:
+            return [FAILED]
+        return [DONE, lesson.error]
+
+    def refusal(self, given_count, out_count, singles):
+        if self.net is None:
+            return NO_NET
+        if given_count != self.net.given.size() or out_count != self.net.comes_out().size():
+            return WRONG_COUNT
+        if not are_finite(singles):
+            return WRONG_VALUE
+        return DONE
+
+
+def are_finite(singles):
+    return all([is_finite(single) for single in singles])

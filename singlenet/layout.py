@@ -1,6 +1,9 @@
 """The text of a net, read."""
 
-from singlenet.net import Layer, Net, Shape
+from singlenet.conv import Conv
+from singlenet.layer import Dense, Pool, Relu
+from singlenet.net import Net
+from singlenet.shape import Shape
 
 SIGNS = "\n 0123456789abcdefghijklmnopqrstuvwxyz"
 FIRST_WORD = "input "
@@ -70,9 +73,9 @@ def read_layer(words, shape):
     if words[0] == "conv" and len(words) == 3:
         return conv_layer(read_number(words[1]), read_number(words[2]), shape)
     if words[0] == "dense" and len(words) == 2:
-        return dense_layer(read_number(words[1]), shape)
+        return Dense(shape, read_number(words[1]))
     if words == ["relu"]:
-        return Layer(shape, 0)
+        return Relu(shape)
     if words == ["pool"]:
         return pool_layer(shape)
     raise NotANet("a line that is no layer")
@@ -81,18 +84,13 @@ def read_layer(words, shape):
 def conv_layer(planes, window, shape):
     if window not in WINDOWS:
         raise NotANet("a window of another size")
-    own_count = planes * shape.planes * window * window + planes
-    return Layer(Shape(planes, shape.rows, shape.columns), own_count)
-
-
-def dense_layer(planes, shape):
-    return Layer(Shape(planes, 1, 1), planes * shape.size() + planes)
+    return Conv(shape, planes, window)
 
 
 def pool_layer(shape):
     if shape.rows % 2 != 0 or shape.columns % 2 != 0:
         raise NotANet("pool over odd rows or columns")
-    return Layer(Shape(shape.planes, shape.rows // 2, shape.columns // 2), 0)
+    return Pool(shape)
 
 
 def read_number(word):

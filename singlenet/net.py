@@ -3,32 +3,16 @@
 from singlenet.single import PLUS_ZERO
 
 
-class Shape:
-
-    def __init__(self, planes, rows, columns):
-        self.planes = planes
-        self.rows = rows
-        self.columns = columns
-
-    def size(self):
-        return self.planes * self.rows * self.columns
-
-
-# A layer tells how many numbers are its own but doesn't hold them:
-# a text that asks for far too many is refused before any room is taken.
-class Layer:
-
-    def __init__(self, made, own_count):
-        self.made = made
-        self.own_count = own_count
-
-
+# v, m and s belong to each of the layers' own numbers: v is kept by train, m and s are kept by ease.
 class Net:
 
     def __init__(self, given, layers):
         self.given = given
         self.layers = layers
-        self.own = [[PLUS_ZERO] * layer.own_count for layer in layers]
+        self.own = [zeros(layer) for layer in layers]
+        self.v = [zeros(layer) for layer in layers]
+        self.m = [zeros(layer) for layer in layers]
+        self.s = [zeros(layer) for layer in layers]
 
     def comes_out(self):
         if len(self.layers) == 0:
@@ -44,3 +28,20 @@ class Net:
     def sizes(self):
         totals = [len(self.layers), self.given.size(), self.comes_out().size()]
         return totals + [layer.own_count for layer in self.layers]
+
+    def set_own(self, layer, numbers):
+        self.own[layer] = numbers
+        self.v[layer] = zeros(self.layers[layer])
+        self.m[layer] = zeros(self.layers[layer])
+        self.s[layer] = zeros(self.layers[layer])
+
+    # What's given to each layer, in order, and behind them what comes out.
+    def stages(self, numbers):
+        stages = [numbers]
+        for layer, own in zip(self.layers, self.own):
+            stages.append(layer.make(own, stages[-1]))
+        return stages
+
+
+def zeros(layer):
+    return [PLUS_ZERO] * layer.own_count

@@ -1,5 +1,7 @@
 """Call lists for the tests, and answers taken apart call by call."""
 
+import struct
+
 from singlenet.held import answers
 
 
@@ -45,3 +47,28 @@ def ask(*calls):
 def check_long(case, told, wanted):
     case.assertEqual(len(told), len(wanted))
     case.assertTrue(told == wanted, "as many numbers, but others")
+
+
+def run(m, numbers):
+    return [4, m, len(numbers)] + list(numbers)
+
+
+def train(rate, mu, numbers, wanted):
+    return [5, rate, mu, len(numbers)] + list(numbers) + [len(wanted)] + list(wanted)
+
+
+def ease(rate, b1, b2, eps, numbers, wanted):
+    return [6, rate, b1, b2, eps, len(numbers)] + list(numbers) + [len(wanted)] + list(wanted)
+
+
+# The bits of numbers that are singles as they stand.
+def singles(*numbers):
+    bits = [struct.unpack("<I", struct.pack("<f", number))[0] for number in numbers]
+    for number, back in zip(numbers, bits):
+        if struct.unpack("<f", struct.pack("<I", back))[0] != number:
+            raise AssertionError("%r is no single" % number)
+    return bits
+
+
+def single(number):
+    return singles(number)[0]

@@ -225,6 +225,10 @@ class AgainTest(unittest.TestCase):
             self.assertEqual(held.set_own(0, [0, 0]), [-9])
             self.assertEqual(held.set_own(5, [0x7F800000]), [-9])
             self.assertEqual(held.get_own(0, 2), [-9])
+            self.assertEqual(held.run(1, [0]), [-9])
+            self.assertEqual(held.run(5, [0x7F800000]), [-9])
+            self.assertEqual(held.train([ONE, 0], [0], [0]), [-9])
+            self.assertEqual(held.ease([ONE, 0, 0, ONE], [0], [0]), [-9])
             self.assertEqual(held.begin(list(b"input 1 1 1\ndense 1")), [0])
             self.assertEqual(held.get_own(0, 2), [0, 0, 0])
 

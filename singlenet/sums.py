@@ -1,0 +1,83 @@
+"""Products added up from a number on, each added to what there is, one after another."""
+
+from singlenet.single import FINE_BITS, MINUS_ZERO, dropped_bits, kept, plus, times, to_single, to_units
+
+# No sum has as many as 65536 products, as there are no more own numbers. So whatever the start and the products
+# are less than, the sum is less than 2 to the power of 17 times that, with all that rounding may add.
+SUM_BITS = 17
+MOST_FINE_BITS = 426
+
+
+# All that goes into the sums of a layer, in one of two forms. Fine units are far quicker to reckon with than
+# singles, but have no -0 and no end: they are taken where neither can come up.
+class Sums:
+
+    def __init__(self, starts, left, right):
+        self.starts = [to_units(single) << FINE_BITS for single in starts]
+        self.left = [to_units(single) for single in left]
+        self.right = [to_units(single) for single in right]
+        self.are_fine = MINUS_ZERO not in starts and self.stay_finite()
+        if not self.are_fine:
+            self.starts = starts
+            self.left = left
+            self.right = right
+
+    def stay_finite(self):
+        product_bits = most_bits(self.left) + most_bits(self.right)
+        return max(product_bits, FINE_BITS, most_bits(self.starts)) + SUM_BITS < MOST_FINE_BITS
+
+    def add_up(self, start, left, right):
+        if self.are_fine:
+            return add_up_fine(start, left, right)
+        return add_up_singles(start, left, right)
+
+    def in_singles(self, totals):
+        if self.are_fine:
+            return [to_single(total) for total in totals]
+        return totals
+
+
+def most_bits(counts):
+    return max([count.bit_length() for count in counts], default=0)
+
+
+def add_up_singles(start, left, right):
+    total = start
+    for x, y in zip(left, right):
+        total = plus(total, times(x, y))
+    return total
+
+
+# A start of -0 is none of these, so a product of 0, whatever its sign, changes nothing.
+def add_up_fine(start, left, right):
+    total = start
+    for x, y in zip(left, right):
+        product = x * y
+        if product != 0:
+            total = rounded(total + rounded(product))
+    return total
+
+
+def rounded(fine):
+    dropped = dropped_bits(fine)
+    return kept(fine, dropped) << dropped
+
+
+# One start for each row of left; a row is as long as right.
+def row_sums(starts, left, right):
+    sums = Sums(starts, left, right)
+    length = len(right)
+    totals = []
+    for row, start in enumerate(sums.starts):
+        totals.append(sums.add_up(start, sums.left[row * length:(row + 1) * length], sums.right))
+    return sums.in_singles(totals)
+
+
+# One start for each column of left; a column is as long as right.
+def column_sums(starts, left, right):
+    sums = Sums(starts, left, right)
+    width = len(starts)
+    totals = []
+    for column, start in enumerate(sums.starts):
+        totals.append(sums.add_up(start, sums.left[column::width], sums.right))
+    return sums.in_singles(totals)
