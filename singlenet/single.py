@@ -45,27 +45,19 @@ def to_units(single):
     return -count if single >= MINUS_ZERO else count
 
 
-# Near 0 there are fewer bits to keep: nothing below a unit is.
-def dropped_bits(fine):
+# The nearest single, of two as near the even one, of a number that is not below 0.
+def nearest(fine):
     dropped = fine.bit_length() - KEPT_BITS
-    return dropped if dropped > FINE_BITS else FINE_BITS
-
-
-# What is left without the dropped bits, to the nearest, of two as near to the even one.
-def kept(fine, dropped):
+    # Near 0 there are fewer bits to keep: nothing below a unit is.
+    if dropped < FINE_BITS:
+        dropped = FINE_BITS
     halves = fine >> (dropped - 1)
     # An odd count of halves goes up, unless it is exact and what is kept below it is even.
     if halves & 1 and (halves & 2 or halves << (dropped - 1) != fine):
         halves += 1
-    return halves >> 1
-
-
-# The nearest single of a number that is not below 0.
-def nearest(fine):
-    dropped = dropped_bits(fine)
     # The leading bit isn't cut off but added: it makes the exponent one more, and is missing just where that stays 0.
     # One that rounding has carried further makes the exponent one more again.
-    single = ((dropped - FINE_BITS) << FRACTION_BITS) + kept(fine, dropped)
+    single = ((dropped - FINE_BITS) << FRACTION_BITS) + (halves >> 1)
     if single >= EXPONENT:
         raise NotFinite("a result beyond the greatest single")
     return single

@@ -1,9 +1,10 @@
 """Products added up from a number on, each added to what there is, one after another."""
 
-from singlenet.single import FINE_BITS, MINUS_ZERO, dropped_bits, kept, plus, times, to_single, to_units
+from singlenet.single import FINE_BITS, KEPT_BITS, MINUS_ZERO, plus, times, to_single, to_units
 
-# No sum has as many as 65536 products, as there are no more own numbers. So whatever the start and the products
-# are less than, the sum is less than 2 to the power of 17 times that, with all that rounding may add.
+# No sum has as many as 65536 products: of own numbers there are no more, of numbers given or made even fewer. So
+# whatever the start and the products are less than, a sum is less than 2 to the power of 17 times that, with all that
+# rounding may add. The greatest single has 426 bits in fine units.
 SUM_BITS = 17
 MOST_FINE_BITS = 426
 
@@ -48,19 +49,28 @@ def add_up_singles(start, left, right):
     return total
 
 
-# A start of -0 is none of these, so a product of 0, whatever its sign, changes nothing.
+# There is no start of -0 here, so a product of 0, whatever its sign, changes nothing. All is rounded as it is for a
+# single, but stays in fine units; it is written out twice because calls would take longer than what they do.
 def add_up_fine(start, left, right):
     total = start
     for x, y in zip(left, right):
         product = x * y
         if product != 0:
-            total = rounded(total + rounded(product))
+            dropped = product.bit_length() - KEPT_BITS
+            if dropped < FINE_BITS:
+                dropped = FINE_BITS
+            halves = product >> (dropped - 1)
+            if halves & 1 and (halves & 2 or halves << (dropped - 1) != product):
+                halves += 1
+            total += (halves >> 1) << dropped
+            dropped = total.bit_length() - KEPT_BITS
+            # A sum of fewer bits needs no rounding: it is a whole number of units, as what it is made of.
+            if dropped > FINE_BITS:
+                halves = total >> (dropped - 1)
+                if halves & 1 and (halves & 2 or halves << (dropped - 1) != total):
+                    halves += 1
+                total = (halves >> 1) << dropped
     return total
-
-
-def rounded(fine):
-    dropped = dropped_bits(fine)
-    return kept(fine, dropped) << dropped
 
 
 # One start for each row of left; a row is as long as right.
